@@ -1,0 +1,1 @@
+"""Strewfar: what walkers leave on an endless ground."""
