@@ -1,6 +1,11 @@
 """What several tests need."""
 
+import fractions
+import itertools
+
 from strewfar import errors
+from strewfar.parts import Parts
+from strewfar.trails import trail_of
 
 
 def fields_of(call, *arguments, **named):
@@ -55,3 +60,151 @@ def random_statement(dice, dimension, levels):
     if kind == 4:
         return ("repeat", number * 10 ** dice.roll(18), random_block(dice, dimension, levels - 1))
     return ("do" if kind == 2 else "undo", "abcdefgh"[dice.roll(8):])
+
+
+def runs(blocks, block, forward=True, path=(), loops=()):
+    """Run a block statement by statement: yield a go or a put, its path and the times of the loops around it."""
+    for index in range(len(block)) if forward else reversed(range(len(block))):
+        word, given = block[index][:2]
+        here = (*path, index)
+        if word in ("go", "put"):
+            yield word, given if forward else opposite_of(given), here, loops
+        elif word in ("do", "undo"):
+            yield from runs(blocks, blocks[given], forward == (word == "do"), here, loops)
+        else:
+            around = (*loops, abs(given)) if abs(given) > 1 else loops
+            for _ in range(abs(given)):
+                yield from runs(blocks, block[index][2], forward == (given > 0), here, around)
+
+
+def opposite_of(given):
+    return tuple(-item for item in given) if isinstance(given, tuple) else -given
+
+
+class Steps:
+    """What comes out when a block is run beat after beat."""
+
+    def __init__(self, dimension, blocks, block):
+        self.beats = 0
+        self.shift = (0,) * dimension
+        self.puts = []
+        self.times = {}
+        for word, given, path, loops in runs(blocks, block):
+            if word == "go":
+                self.shift = tuple(one + other for one, other in zip(self.shift, given))
+            else:
+                self.puts.append((self.beats, self.shift, given, path))
+                self.times[path] = loops
+            self.beats += 1
+
+    def places(self):
+        """Return the places where something is put, and some near them."""
+        found = {place for _, place, _, _ in self.puts} | {self.shift}
+        return sorted(found | {tuple(item + 1 for item in place) for place in found})
+
+    def amount(self, place):
+        return sum(number for _, there, number, _ in self.puts if there == place)
+
+    def visits(self, place):
+        beats = [beat for beat, there, _, _ in self.puts if there == place]
+        return (len(beats), min(beats, default=None), max(beats, default=None))
+
+    def strewn(self):
+        """Return, for each put in the order of the first runs, the times of its loops and all its runs."""
+        found = {}
+        for beat, place, number, path in self.puts:
+            found.setdefault(path, (self.times[path], []))[1].append((number, place, beat))
+        return list(found.values())
+
+
+def spread(strewing):
+    """Return the times of the loops of a strewing and all its runs, in the form of Steps.strewn."""
+    number, place, beat, loops = strewing
+    found = []
+    for rounds in itertools.product(*[range(times) for _, times, _ in loops]):
+        there = tuple(item + sum(many * stride[axis] for many, (stride, _, _) in zip(rounds, loops))
+                      for axis, item in enumerate(place))
+        found.append((number, there, beat + sum(many * beats for many, (_, _, beats) in zip(rounds, loops))))
+    return tuple(times for _, times, _ in loops), found
+
+
+def heap_of(terms):
+    """Return the counts that terms stand for, by place, without those that are 0."""
+    counts = {}
+    for number, place, loops in terms:
+        for rounds in itertools.product(*[range(times) for _, times in loops]):
+            there = tuple(item + sum(many * stride[axis] for many, (stride, _) in zip(rounds, loops))
+                          for axis, item in enumerate(place))
+            counts[there] = counts.get(there, 0) + number
+    return {place: count for place, count in counts.items() if count != 0}
+
+
+def small_program(dice, dimension, levels):
+    """Return blocks of parts and a block that uses them: small enough to be run step by step."""
+    blocks = {}
+    for name in ("a", "b"):
+        blocks[name] = small_block(dice, dimension, 1, sorted(blocks))
+    return blocks, small_block(dice, dimension, levels, sorted(blocks))
+
+
+def small_block(dice, dimension, levels, names):
+    length = dice.roll(4) + (levels > 1)
+    return tuple(small_statement(dice, dimension, levels, names) for _ in range(length))
+
+
+def small_statement(dice, dimension, levels, names):
+    kind = dice.roll(10)
+    if kind < 2 and names:
+        return (("do", "undo")[kind], names[dice.roll(len(names))])
+    if kind < 4:
+        return ("put", dice.roll(7) - 3)
+    if kind < 6 or levels == 0:
+        return ("go", tuple(dice.roll(5) - 2 for _ in range(dimension)))
+    times = (-3, -2, -1, 0, 1, 2, 3, 2)[dice.roll(8)]
+    return ("repeat", times, small_block(dice, dimension, levels - 1, names))
+
+
+def programs(many, seed, levels=3):
+    """Yield a dimension, parts, a block, its trail and what comes out step by step."""
+    for dimension in (1, 2, 3):
+        dice = Dice(seed + dimension)
+        for _ in range(many):
+            blocks, block = small_program(dice, dimension, levels)
+            parts = Parts(dimension, blocks)
+            if fields_of(parts.check, block) is None:
+                yield dimension, blocks, block, trail_of(parts, block), Steps(dimension, blocks, block)
+
+
+def scaled(factor, block):
+    """Return a block with all its vectors multiplied."""
+    return tuple(scaled_statement(factor, statement) for statement in block)
+
+
+def scaled_statement(factor, statement):
+    if statement[0] == "go":
+        return ("go", tuple(factor * item for item in statement[1]))
+    if statement[0] == "repeat":
+        return ("repeat", statement[1], scaled(factor, statement[2]))
+    return statement
+
+
+def rank(vectors):
+    """Return the rank of vectors, by elimination with fractions."""
+    rows = [[fractions.Fraction(item) for item in vector] for vector in vectors]
+    found = 0
+    for column in range(len(rows[0]) if rows else 0):
+        heads = [row for row in rows if row[column] != 0]
+        if heads:
+            found += 1
+            rows = [[item - row[column] / heads[0][column] * head for item, head in zip(row, heads[0])]
+                    for row in rows if row is not heads[0]]
+    return found
+
+
+def first_tangled(list_of_loops):
+    """Return the index of the first loops whose strides are tangled, or None."""
+    for index, loops in enumerate(list_of_loops):
+        strides = [loop[0] for loop in loops if any(loop[0])]
+        if len(strides) - rank(strides) > 1:
+            return index
+    return None
