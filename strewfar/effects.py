@@ -54,16 +54,10 @@ class Effect:
 
     def power(self, times):
         """Return the effect of running this one so many times, also a negative number; raise TooDeep."""
-        if times < 0:
-            return (-self).power(-times)
-        if times == 0:
-            return Effect.still(self.dimension)
-        if times == 1:
-            return self
-        terms = [looped(term, self._shift, times) for term in self._terms]
-        if any([len(term[2]) > MAX_DEPTH for term in terms]):
+        power = raised(self, times)
+        if any([len(term[2]) > MAX_DEPTH for term in power.terms()]):
             raise TooDeep(MAX_DEPTH)
-        return Effect(scale(times, self._shift), terms)
+        return power
 
     def moved(self, vector):
         """Return the effect with the same shift and with the heap moved by a vector."""
@@ -81,6 +75,18 @@ class Effect:
         for other in others:
             terms.extend(other.terms())
         return Effect(origin(self.dimension), terms)
+
+
+def raised(effect, times):
+    """Return the power of an effect, however many loops its terms have then."""
+    if times < 0:
+        return raised(-effect, -times)
+    if times == 0:
+        return Effect.still(effect.dimension)
+    if times == 1:
+        return effect
+    terms = [looped(term, effect.shift, times) for term in effect.terms()]
+    return Effect(scale(times, effect.shift), terms)
 
 
 def looped(term, stride, times):

@@ -133,18 +133,18 @@ def _visits_of(index, strewing, place):
 def trail_of(parts, block):
     """Return the trail of a block; raise the errors of Parts.check."""
     parts.check(block)
-    return _trail_of_block(parts, block, {})
+    return trail_of_block(parts, block, {})
 
 
-def _trail_of_block(parts, block, known):
+def trail_of_block(parts, block, known):
     """Return the trail of a block; the trails of parts are kept in a dict by name."""
     trail = Trail.still(parts.dimension)
     for statement in block:
-        trail = trail * _trail_of_statement(parts, statement, known)
+        trail = trail * trail_of_statement(parts, statement, known)
     return trail
 
 
-def _trail_of_statement(parts, statement, known):
+def trail_of_statement(parts, statement, known):
     """Return the trail of a statement."""
     word = statement[0]
     if word == "go":
@@ -152,7 +152,7 @@ def _trail_of_statement(parts, statement, known):
     if word == "put":
         return Trail.put(parts.dimension, statement[1])
     if word == "repeat":
-        return _trail_of_block(parts, statement[2], known).repeated(statement[1])
+        return trail_of_block(parts, statement[2], known).repeated(statement[1])
     trail = _trail_of_part(parts, statement[1], known)
     return trail if word == "do" else -trail
 
@@ -161,5 +161,5 @@ def _trail_of_part(parts, name, known):
     """Return the trail of a part."""
     # Without the dict, parts that do one another many times would be run over and over.
     if name not in known:
-        known[name] = _trail_of_block(parts, parts.block(name), known)
+        known[name] = trail_of_block(parts, parts.block(name), known)
     return known[name]

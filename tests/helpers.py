@@ -4,8 +4,9 @@ import fractions
 import itertools
 
 from strewfar import errors
+from strewfar.blocks import reverse
 from strewfar.parts import Parts
-from strewfar.trails import trail_of
+from strewfar.trails import Trail, trail_of
 
 
 def fields_of(call, *arguments, **named):
@@ -208,3 +209,104 @@ def first_tangled(list_of_loops):
         if len(strides) - rank(strides) > 1:
             return index
     return None
+
+
+def going(*vector):
+    """Return the effect of one go."""
+    return Trail.go(vector).effect()
+
+
+def effect_of(block, dimension=1, **blocks):
+    """Return the effect of a block with these parts."""
+    return trail_of(Parts(dimension, blocks), block).effect()
+
+
+def counts_of(puts):
+    """Return the counts by place, without those that are 0, that pairs of a place and a number leave."""
+    counts = {}
+    for place, number in puts:
+        counts[place] = counts.get(place, 0) + number
+    return {place: count for place, count in counts.items() if count != 0}
+
+
+def moved(place, vector):
+    return tuple(item + by for item, by in zip(place, vector))
+
+
+class Prefix:
+    """What comes out of the first beats of a block, run beat after beat; of all beats, if there are not so many."""
+
+    def __init__(self, dimension, blocks, block, beats, start=None):
+        self.place = (0,) * dimension if start is None else start
+        self.puts = []
+        for beat, (word, given, _, _) in enumerate(itertools.islice(runs(blocks, block), beats)):
+            if word == "go":
+                self.place = moved(self.place, given)
+            else:
+                self.puts.append((beat, self.place, given))
+
+    def heap(self):
+        return counts_of([(place, number) for _, place, number in self.puts])
+
+
+def loads(effect):
+    """Return how much each stride counts in the load of an effect."""
+    most = {}
+    for _, _, loops in effect.terms():
+        for stride, _ in loops:
+            many = len([loop for loop in loops if loop[0] == stride])
+            most[stride] = max(most.get(stride, 0), many)
+    return most
+
+
+def far_block(dice, dimension, levels, names=()):
+    """Return a block whose loops run very often, up to so many levels deep."""
+    block = [far_statement(dice, dimension, levels, names) for _ in range(1 + dice.roll(3))]
+    return tuple(block) + (("put", 1 + dice.roll(5)),)
+
+
+def far_statement(dice, dimension, levels, names):
+    kind = dice.roll(6)
+    if kind == 0 and names:
+        return (("do", "undo")[dice.roll(2)], names[dice.roll(len(names))])
+    if kind < 3 and levels > 0:
+        times = (dice.roll(2) * 2 - 1) * (2 + dice.roll(10 ** (1 + dice.roll(9))) * 10 ** dice.roll(21))
+        return ("repeat", times, far_block(dice, dimension, levels - 1, names))
+    if kind == 3:
+        return ("put", dice.roll(9) - 4)
+    return ("go", tuple((dice.roll(7) - 3) * 10 ** dice.roll(5) for _ in range(dimension)))
+
+
+def otherwise(dice, block):
+    """Return the block with one statement written otherwise: it does the same, but its loops may be others."""
+    index = dice.roll(len(block))
+    return block[:index] + rewritten(dice, block[index]) + block[index + 1:]
+
+
+def rewritten(dice, statement):
+    word, given = statement[:2]
+    if word == "put":
+        part = dice.roll(2001) - 1000
+        return (("put", part), ("put", given - part))
+    if word == "go":
+        part = tuple(dice.roll(2001) - 1000 for _ in given)
+        return (("go", part), ("go", moved(given, opposite_of(part))))
+    if word != "repeat":
+        return (statement, (word, given), ({"do": "undo", "undo": "do"}[word], given))
+    return rewritten_loop(dice, given, statement[2])
+
+
+def rewritten_loop(dice, times, body):
+    kind = dice.roll(5)
+    if kind == 0:
+        part = dice.roll(10 ** 9)
+        return (("repeat", part, body), ("repeat", times - part, body))
+    if kind == 1:
+        return (("repeat", -times, reverse(body)),)
+    if kind == 2:
+        factor = max(number for number in (1, 2, 3, 5, 10) if times % number == 0)
+        return (("repeat", times // factor, (("repeat", factor, body),)),)
+    if kind == 3 and times > 1:
+        cut = dice.roll(len(body) + 1)
+        return (*body[:cut], ("repeat", times - 1, body[cut:] + body[:cut]), *body[cut:])
+    return (("repeat", times, otherwise(dice, body)),)

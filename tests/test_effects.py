@@ -2,7 +2,8 @@
 
 import unittest
 
-from helpers import Dice, Steps, fields_of, first_tangled, heap_of, programs, scaled, small_block
+from helpers import (Dice, Steps, effect_of, fields_of, first_tangled, going, heap_of, programs, scaled,
+                     small_block)
 from strewfar.blocks import reverse
 from strewfar.effects import Effect
 from strewfar.errors import InvalidPlace, Tangled, TooDeep
@@ -16,14 +17,6 @@ WRONG_PLACES = ((), (1,), (1, 2, 3), (1, True), (False, 0), ("1", 2), (1, None),
 def told(effect):
     """Return all that an effect tells of itself."""
     return effect.dimension, effect.shift, effect.total, effect.terms()
-
-
-def effect_of(block, dimension=1, **blocks):
-    return trail_of(Parts(dimension, blocks), block).effect()
-
-
-def going(*vector):
-    return Trail.go(vector).effect()
 
 
 def moved_heap(heap, vector, factor=1):

@@ -3,11 +3,15 @@
 import unittest
 
 from helpers import fields_of
+from strewfar.beats import split, walk
 from strewfar.blocks import reverse
+from strewfar.compare import difference, exponent
+from strewfar.crews import Crew, LateWalker, Walker
 from strewfar.errors import ParseError
 from strewfar.lattices import solutions
 from strewfar.parts import Parts
 from strewfar.places import add, scale
+from strewfar.residues import offset, residue_sums
 from strewfar.tongue import format_block, parse_block
 from strewfar.trails import trail_of
 
@@ -35,6 +39,34 @@ class Examples(unittest.TestCase):
         inner = (("repeat", 4, (("put", 1), ("go", (1,)))), ("go", (-3,)))
         effect = trail_of(Parts.empty(1), (("repeat", 3, inner),)).effect()
         self.assertEqual([effect.amount((2,)), effect.amount((5,)), effect.total], [3, 1, 12])
+
+    def test_compare(self):
+        parts = Parts(1, {"a": (("put", 1), ("go", (2,)))})
+        six = trail_of(parts, (("repeat", 6, (("do", "a"),)),)).effect()
+        seven = trail_of(parts, (("do", "a"),) * 7).effect()
+        self.assertEqual(difference(six, seven), (((12,), -1), ((12,), -1)))
+        one = trail_of(parts, (("do", "a"),)).effect()
+        self.assertEqual(exponent(one, trail_of(parts, (("undo", "a"),) * 5).effect()), -5)
+
+    def test_residues(self):
+        parts = Parts(1, {"a": (("put", 1), ("go", (2,)))})
+        self.assertEqual(residue_sums(trail_of(parts, (("do", "a"),) * 5).effect(), (3,)),
+                         [((0,), 2), ((1,), 1), ((2,), 2)])
+        one = trail_of(Parts.empty(1), (("put", 1), ("go", (3,)))).effect()
+        other = trail_of(Parts.empty(1), (("go", (2,)), ("put", 1), ("go", (1,)))).effect()
+        self.assertEqual(offset(one, other), 1)
+
+    def test_beats(self):
+        parts = Parts(1, {"a": (("put", 1), ("go", (2,)))})
+        front, back = split(parts, (("do", "a"),) * 3, 3)
+        self.assertEqual([front.shift, front.beats, back.beats], [(2,), 3, 3])
+        self.assertEqual(list(walk(Parts.empty(1), (("repeat", 10 ** 30, (("put", 7), ("go", (1,)))),), limit=4)),
+                         [(0, (0,), 7), (2, (1,), 7)])
+
+    def test_crews(self):
+        crew = Crew(Parts(1, {"a": (("put", 1), ("go", (1,)))}))
+        crew.join(Walker("a", (0,)), LateWalker("a", (5,), delay=3))
+        self.assertEqual([crew.places(2), crew.last(), len(crew)], [[(1,), (5,)], 5, 2])
 
 
 if __name__ == "__main__":

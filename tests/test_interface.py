@@ -10,6 +10,8 @@ VALUES = {
     "places": {"MAX_DIMENSION": 3},
     "blocks": {"MAX_STATEMENTS": 60, "MAX_STEP": 10 ** 12, "MAX_TIMES": 10 ** 30},
     "parts": {"MAX_PARTS": 12, "MAX_DEPTH": 6, "MAX_PUTS": 60},
+    "residues": {"MAX_CLASSES": 40},
+    "crews": {"MAX_WALKERS": 8},
 }
 FUNCTIONS = {
     "places": ("is_place(thing, dimension)", "origin(dimension)", "add(one, *others)", "scale(number, place)",
@@ -19,6 +21,10 @@ FUNCTIONS = {
     "tongue": ("format_block(block)", "parse_block(text, dimension)"),
     "lattices": ("relations(vectors)", "solutions(vectors, times, target)"),
     "trails": ("trail_of(parts, block)",),
+    "compare": ("difference(one, other, *, modulo=0)", "same(one, other)", "commute(one, other)",
+                "exponent(one, other)"),
+    "residues": ("residue_sums(effect, moduli)", "offset(one, other)"),
+    "beats": ("split(parts, block, beat)", "walk(parts, block, *, start=None, limit=1000)"),
 }
 METHODS = {
     ("parts", "Parts"): ("__init__(self, dimension, blocks)", "classmethod empty(cls, dimension)",
@@ -32,6 +38,14 @@ METHODS = {
                             "property dimension(self)", "property shift(self)", "property total(self)", "terms(self)",
                             "__mul__(self, other)", "__neg__(self)", "power(self, times)", "moved(self, vector)",
                             "amount(self, place)", "merged(self, *others)"),
+    ("crews", "Walker"): ("__init__(self, part, start)", "property part(self)", "property start(self)",
+                          "trail(self, parts)", "place_after(self, parts, beats)", "effect_after(self, parts, beats)",
+                          "last(self, parts)"),
+    ("crews", "LateWalker"): ("__init__(self, part, start, *, delay=1)", "property delay(self)",
+                              "place_after(self, parts, beats)", "effect_after(self, parts, beats)",
+                              "last(self, parts)"),
+    ("crews", "Crew"): ("__init__(self, parts)", "__len__(self)", "join(self, *walkers)", "leave(self, index)",
+                        "walkers(self)", "places(self, beat)", "effect(self, *, beat=None)", "last(self)"),
 }
 
 

@@ -80,6 +80,16 @@ class Code(unittest.TestCase):
                     setter = isinstance(decorator, ast.Attribute) and decorator.attr == "setter"
                     self.assertTrue(setter or getattr(decorator, "id", "") in DECORATORS)
 
+    def test_stars_in_calls(self):
+        for name, node in nodes(ast.Call):
+            for argument in node.args:
+                if isinstance(argument, ast.Starred):
+                    with self.subTest(file=name, line=node.lineno):
+                        self.assertIsInstance(argument.value, (ast.Name, ast.Attribute, ast.List, ast.Tuple))
+
+    def test_no_generator_expressions_and_no_annotations(self):
+        self.assertEqual(nodes(ast.GeneratorExp, ast.AnnAssign), [])
+
     def test_strings(self):
         for name, node in nodes(ast.Constant):
             with self.subTest(file=name, line=node.lineno):
