@@ -122,23 +122,27 @@ def _product_of(terms, factors, dimension):
         # Many terms have the same loops, as those of the puts within one loop.
         if loops not in patterns:
             patterns[loops] = _pattern_of(loops, factors, dimension)
-        for vector, sign in patterns[loops]:
+        for vector, many in patterns[loops]:
             there = add(place, vector)
-            counts[there] = counts.get(there, 0) + sign * number
+            counts[there] = counts.get(there, 0) + many * number
     return counts
 
 
 def _pattern_of(loops, factors, dimension):
-    """Return what is left of a mark at the origin in loops: pairs of a place and 1 or -1."""
+    """Return what is left of a mark at the origin in loops: pairs of a place and a count."""
     left = list(factors)
     steps = []
     for stride, times in loops:
         left.remove(stride)
         steps.append(scale(times, stride))
-    pattern = [(origin(dimension), 1)]
+    pattern = {origin(dimension): 1}
     for step in steps + left:
-        pattern = pattern + [(add(place, step), -sign) for place, sign in pattern]
-    return pattern
+        grown = {place: pattern[place] for place in pattern}
+        for place in pattern:
+            there = add(place, step)
+            grown[there] = grown.get(there, 0) - pattern[place]
+        pattern = grown
+    return [(place, count) for place, count in pattern.items() if count != 0]
 
 
 def _without_factors(place, count, factors, modulo):

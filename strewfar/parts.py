@@ -102,7 +102,7 @@ class Parts:
 
     def _measure(self):
         """Note the depth and the puts of each part; raise Circular."""
-        used = {name: _used_by(name, self._blocks) for name in self._blocks}
+        used = {name: used_by(name, self._blocks) for name in self._blocks}
         for name in self._blocks:
             if name in used[name]:
                 raise Circular(name)
@@ -112,7 +112,7 @@ class Parts:
             self._puts[name] = _puts_of(self._blocks[name], self._puts)
 
 
-def _used_by(name, blocks):
+def used_by(name, blocks):
     """Return the names of the parts that a part uses, each once."""
     used = []
     waiting = names_in(blocks[name])

@@ -310,3 +310,39 @@ def rewritten_loop(dice, times, body):
         cut = dice.roll(len(body) + 1)
         return (*body[:cut], ("repeat", times - 1, body[cut:] + body[:cut]), *body[cut:])
     return (("repeat", times, otherwise(dice, body)),)
+
+
+def measure(blocks, block):
+    """Return the depth and the puts of a block with those of its parts written in place of their names."""
+    depth, puts = 0, 0
+    for statement in block:
+        levels, many = 0, int(statement[0] == "put")
+        if statement[0] == "repeat":
+            levels, many = measure(blocks, statement[2])
+            levels += 1
+        elif statement[0] != "go" and statement[0] != "put":
+            levels, many = measure(blocks, blocks[statement[1]])
+        depth, puts = max(depth, levels), puts + many
+    return depth, puts
+
+
+def named_in(block):
+    """Return the names in a block, as often as they occur."""
+    found = []
+    for statement in block:
+        if statement[0] in ("do", "undo"):
+            found.append(statement[1])
+        elif statement[0] == "repeat":
+            found += named_in(statement[2])
+    return found
+
+
+def uses(blocks, name):
+    """Return the names of the parts that a part uses."""
+    found, waiting = set(), named_in(blocks[name])
+    while waiting:
+        other = waiting.pop()
+        if other not in found:
+            found.add(other)
+            waiting += named_in(blocks[other])
+    return found

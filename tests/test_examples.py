@@ -5,13 +5,16 @@ import unittest
 from helpers import fields_of
 from strewfar.beats import split, walk
 from strewfar.blocks import reverse
+from strewfar.books import Book
 from strewfar.compare import difference, exponent
 from strewfar.crews import Crew, LateWalker, Walker
-from strewfar.errors import ParseError
+from strewfar.desks import Desk
+from strewfar.errors import InUse, ParseError
 from strewfar.lattices import solutions
 from strewfar.parts import Parts
 from strewfar.places import add, scale
 from strewfar.residues import offset, residue_sums
+from strewfar.tables import table
 from strewfar.tongue import format_block, parse_block
 from strewfar.trails import trail_of
 
@@ -67,6 +70,21 @@ class Examples(unittest.TestCase):
         crew = Crew(Parts(1, {"a": (("put", 1), ("go", (1,)))}))
         crew.join(Walker("a", (0,)), LateWalker("a", (5,), delay=3))
         self.assertEqual([crew.places(2), crew.last(), len(crew)], [[(1,), (5,)], 5, 2])
+
+    def test_books(self):
+        book = Book(1)
+        book.define("a", (("put", 1),))
+        book.define("b", (("do", "a"),))
+        self.assertEqual(fields_of(book.drop, "a"), (InUse, "b"))
+
+    def test_desks(self):
+        desk = Desk(dimension=1)
+        self.assertEqual([desk.ask("define a put 2; go 1"), desk.ask("amount a 0"), desk.ask("amount a"),
+                          desk.ask("drop b")], ["ok", "2", "what", "error UnknownName"])
+
+    def test_tables(self):
+        self.assertEqual(table(Parts(1, {"a": (("put", 1500), ("go", (3,)))})),
+                         "a                     2          1,500 3\n")
 
 
 if __name__ == "__main__":

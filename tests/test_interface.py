@@ -25,6 +25,8 @@ FUNCTIONS = {
                 "exponent(one, other)"),
     "residues": ("residue_sums(effect, moduli)", "offset(one, other)"),
     "beats": ("split(parts, block, beat)", "walk(parts, block, *, start=None, limit=1000)"),
+    "pages": ("format_book(book)", "parse_book(text)"),
+    "tables": ("table(parts)",),
 }
 METHODS = {
     ("parts", "Parts"): ("__init__(self, dimension, blocks)", "classmethod empty(cls, dimension)",
@@ -46,6 +48,12 @@ METHODS = {
                               "last(self, parts)"),
     ("crews", "Crew"): ("__init__(self, parts)", "__len__(self)", "join(self, *walkers)", "leave(self, index)",
                         "walkers(self)", "places(self, beat)", "effect(self, *, beat=None)", "last(self)"),
+    ("books", "Book"): ("__init__(self, dimension)", "classmethod of(cls, parts)", "property parts(self)",
+                        "__len__(self)", "__repr__(self)", "__eq__(self, other)", "define(self, name, block)",
+                        "redefine(self, name, block)", "rename(self, name, new)", "drop(self, name)",
+                        "apply(self, command)", "apply_all(self, commands)", "undo(self)", "redo(self)",
+                        "history(self)", "trail(self, name)", "effect(self, name)", "clone(self)"),
+    ("desks", "Desk"): ("__init__(self, *, book=None, dimension=2)", "book(self)", "ask(self, line)"),
 }
 
 

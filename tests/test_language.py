@@ -87,6 +87,32 @@ class Code(unittest.TestCase):
                     with self.subTest(file=name, line=node.lineno):
                         self.assertIsInstance(argument.value, (ast.Name, ast.Attribute, ast.List, ast.Tuple))
 
+    def test_names_of_imports_and_classes_mean_nothing_else(self):
+        for path, text in sources():
+            tree = ast.parse(text)
+            taken = {alias.name for node in tree.body if isinstance(node, ast.ImportFrom) for alias in node.names}
+            taken |= {node.name for node in tree.body if isinstance(node, ast.ClassDef)}
+            for node in ast.walk(tree):
+                names = [node.id] if isinstance(node, ast.Name) and isinstance(node.ctx, ast.Store) else []
+                names += [node.arg] if isinstance(node, ast.arg) else []
+                with self.subTest(file=path.name, names=names):
+                    self.assertFalse(taken & set(names))
+                    self.assertFalse([name for name in names if hasattr(builtins, name)])
+
+    def test_each_name_of_a_generator_is_its_own(self):
+        functions = [node for _, node in nodes(ast.FunctionDef)]
+        generators = {node.name for node in functions if any(isinstance(one, ast.Yield) for one in ast.walk(node))}
+        self.assertEqual(generators, {"walk"})
+        self.assertEqual(len([node for node in functions if node.name in generators]), len(generators))
+
+    def test_imports_are_used(self):
+        for path, text in sources():
+            tree = ast.parse(text)
+            names = {alias.name for node in tree.body if isinstance(node, ast.ImportFrom) for alias in node.names}
+            used = {node.id for node in ast.walk(tree) if isinstance(node, ast.Name)}
+            with self.subTest(file=path.name):
+                self.assertLessEqual(names, used)
+
     def test_no_generator_expressions_and_no_annotations(self):
         self.assertEqual(nodes(ast.GeneratorExp, ast.AnnAssign), [])
 
